@@ -1,0 +1,1 @@
+"""A poem's drafts, on which several hands work."""
