@@ -6,17 +6,17 @@ class Reader:
         self.numbers = numbers
         self.place = 0
 
-    def at_end(self):
-        return self.place >= len(self.numbers)
+    def left(self):
+        return len(self.numbers) - self.place
 
     def one(self):
         number = self.numbers[self.place]
         self.place += 1
         return number
 
-    def several(self, count):
+    def several(self, many):
         start = self.place
-        self.place += count
+        self.place += many
         return self.numbers[start:self.place]
 
     def row(self):

@@ -13,8 +13,18 @@ class NothingLeft(Exception):
     pass
 
 
-class NoSuchLine(Exception):
+class NotThere(Exception):
     pass
+
+
+class NoDraft(Exception):
+    pass
+
+
+class Clash(Exception):
+    def __init__(self, hand, number):
+        self.hand = hand
+        self.number = number
 
 
 class DraftFull(Exception):

@@ -1,8 +1,10 @@
 """Which lines of a draft are shown, in which order and with which text."""
 
-from handdrafts.refusals import NoSuchLine
+from handdrafts.refusals import NotThere
 from handdrafts.standing import steps_off
 from handdrafts.steps import KIND_CHANGE, KIND_STRIKE, KIND_WRITE, TOP
+
+LINE_END = 10
 
 
 def writes_behind(draft):
@@ -55,8 +57,21 @@ def lines_shown(draft):
     return shown
 
 
-def name_of_shown(draft, at):
+def line_shown(draft, k):
     shown = lines_shown(draft)
-    if at < 1 or at > len(shown):
-        raise NoSuchLine()
-    return shown[at - 1][0]
+    if k < 0 or k >= len(shown):
+        raise NotThere()
+    return shown[k]
+
+
+def name_of_shown(draft, at):
+    # Calls that make a step count the lines from 1.
+    return line_shown(draft, at - 1)[0]
+
+
+def text_shown(draft):
+    signs = []
+    for line in lines_shown(draft):
+        signs.extend(line[1])
+        signs.append(LINE_END)
+    return signs

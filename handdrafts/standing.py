@@ -1,7 +1,7 @@
 """Which steps of a draft are off, and which of them a hand's undo and redo mean."""
 
 from handdrafts.refusals import NothingLeft
-from handdrafts.steps import KIND_CHANGE, KIND_REDO, KIND_STRIKE, KIND_UNDO, KIND_WRITE
+from handdrafts.steps import KIND_REDO, KIND_UNDO, can_be_undone
 
 
 def steps_off(draft):
@@ -18,8 +18,7 @@ def steps_off(draft):
 def step_to_undo(draft, hand):
     off = steps_off(draft)
     for step in reversed(draft):
-        can_be_undone = step.kind in (KIND_WRITE, KIND_STRIKE, KIND_CHANGE)
-        if step.hand == hand and can_be_undone and step.name() not in off:
+        if step.hand == hand and can_be_undone(step) and step.name() not in off:
             return step.name()
     raise NothingLeft()
 

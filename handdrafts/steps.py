@@ -1,6 +1,6 @@
-"""Steps, and how a new one is made. A draft is a list of steps, in order."""
+"""Steps, their order, and how a new one is made. A draft is a list of steps, in order."""
 
-from handdrafts.refusals import DraftFull
+from handdrafts.refusals import DraftFull, NotThere
 
 KIND_WRITE = 0
 KIND_STRIKE = 1
@@ -11,6 +11,7 @@ KIND_REDO = 4
 # No step has the number 0, so this names none of them.
 TOP = (0, 0)
 
+LAST_HAND = 7
 MOST_STEPS = 128
 GREATEST_CLOCK = 2147483647
 
@@ -26,6 +27,34 @@ class Step:
 
     def name(self):
         return (self.hand, self.number)
+
+    def rank(self):
+        return (self.clock, self.hand)
+
+
+def says_line(kind):
+    return kind in (KIND_WRITE, KIND_CHANGE)
+
+
+def can_be_undone(step):
+    return step.kind in (KIND_WRITE, KIND_STRIKE, KIND_CHANGE)
+
+
+def in_order(steps):
+    return sorted(steps, key=lambda step: step.rank())
+
+
+def by_names(draft):
+    known = {}
+    for step in draft:
+        known[step.name()] = step
+    return known
+
+
+def step_at(draft, k):
+    if k >= len(draft):
+        raise NotThere()
+    return draft[k]
 
 
 def greatest_clock(draft):

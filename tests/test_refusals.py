@@ -1,9 +1,8 @@
 import unittest
 
-from handdrafts.session import Session
-from handdrafts.steps import KIND_UNDO, KIND_WRITE, TOP, Step
 from tests.calling import (
-    ask, begin, change, last, lines, poem_of, redo, run_on, session_after, strike, told, undo, write,
+    ask, begin, change, last, lines, load, poem_of, redo, run_on, session_after, strike, told, undo, undoes, write,
+    writes,
 )
 
 # 128 steps: 126 lines of hand 0; hand 1 has written one and undone it.
@@ -47,7 +46,8 @@ class WrongHand(unittest.TestCase):
 
 class NoLineBytes(unittest.TestCase):
     def test_before_no_such_line(self):
-        self.assertEqual(ask(begin(0), write(0, 0, 1, "A"), change(0, 0, 1, "A"), change(0, 0, 0, "A")), [0, -1, -1, -1])
+        calls = [write(0, 0, 1, "A"), change(0, 0, 1, "A"), change(0, 0, 0, "A")]
+        self.assertEqual(ask(begin(0), *calls), [0, -1, -1, -1])
 
     def test_before_full(self):
         self.assertEqual(ask(*FULL, write(0, 0, 0, "a "), change(0, 0, 1, "a "))[-2:], [-1, -1])
@@ -80,30 +80,24 @@ class Full(unittest.TestCase):
 
 
 class GreatestClock(unittest.TestCase):
-    # No list of the calls 0 to 6 comes to such clocks, so the draft is laid down by hand.
-    def session_at(self, clock):
-        session = Session()
-        session.drafts[0] = [
-            Step(0, 1, clock - 2, KIND_WRITE, TOP, [97]),
-            Step(0, 2, clock - 1, KIND_WRITE, TOP, [98]),
-            Step(0, 3, clock, KIND_UNDO, (0, 2), []),
-        ]
-        return session
+    def calls_to(self, clock):
+        """Hand 0 has written two lines and undone the second, with this clock."""
+        return [begin(0), load(0, writes(0, 1, 1) + writes(0, 2, 2) + undoes(0, 3, clock, (0, 2)))]
 
     def test_refused_at_the_greatest(self):
-        session = self.session_at(2147483647)
+        session = session_after(*self.calls_to(2147483647))
         before = told(session)
         self.assertEqual(run_on(session, *all_makers(0, 0), lines(0)), [-2] * 5 + [1])
         self.assertEqual(told(session), before)
 
     def test_other_refusals_come_first(self):
-        session = self.session_at(2147483647)
+        session = session_after(*self.calls_to(2147483647))
         calls = [*all_makers(1, 0), *all_makers(0, 8), write(0, 0, 2), strike(0, 0, 2), undo(0, 1), redo(0, 1)]
         self.assertEqual(run_on(session, *calls), [-5] * 5 + [-1] * 5 + [-4, -4, -3, -3])
 
     def test_made_one_below(self):
         for maker in all_makers(0, 0):
-            session = self.session_at(2147483646)
+            session = session_after(*self.calls_to(2147483646))
             self.assertEqual(run_on(session, maker, write(0, 1, 0)), [4, -2])
             self.assertEqual(session.begun(0)[-1].clock, 2147483647)
 
